@@ -1,4 +1,4 @@
-"""The form of the package's files: the rules of the language that can be seen in the code alone."""
+"""The form of the package's files: part of the language's rules (files, sizes, statements, names, methods)."""
 
 import ast
 import builtins
